@@ -1,0 +1,1 @@
+"""Rules of rewriting looked at: termpairs.rules.told is the way in."""
