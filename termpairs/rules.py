@@ -5,7 +5,7 @@ from termpairs.meeting import Meetings
 from termpairs.paths import is_above
 from termpairs.reading import book_of
 from termpairs.refusals import NotWellMade, OutOfRange, TooGreat, TooLong
-from termpairs.terms import Store, written
+from termpairs.terms import Store, written, written_length
 
 MOST_STEPS = 10000
 MOST_TOLD = 4194304
@@ -20,10 +20,18 @@ class Telling:
         self.pieces = []
 
     def tell(self, piece):
-        self.length += len(piece)
+        self.make_room(len(piece))
+        self.pieces.append(piece)
+
+    def tell_row(self, row):
+        # Measured before it is written: names may be long, and a term that is refused may take much memory.
+        self.make_room(written_length(row))
+        self.pieces.append(written(row))
+
+    def make_room(self, length):
+        self.length += length
         if self.length > self.most:
             raise TooLong()
-        self.pieces.append(piece)
 
 
 def told(steps, most, text):
@@ -70,23 +78,32 @@ def tell_pair(telling, meetings, meeting, ends):
     rows = meetings.pair_rows(meeting)
     first = meeting[0] + 1
     second = meeting[2] + 1
-    one = written(rows[0])
-    other = written(rows[1])
     # Told ahead of the ends: if it is too long already, they need not be sought.
-    telling.tell(f"pair {first} {second} {one} {other}")
-    telling.tell(ends_told(ends.end_of(rows[0]), ends.end_of(rows[1])))
+    tell_rows(telling, f"pair {first} {second}", rows)
+    tell_ends(telling, ends.end_of(rows[0]), ends.end_of(rows[1]))
+    telling.tell("\n")
 
 
-def ends_told(one, other):
+def tell_ends(telling, one, other):
     if one is None or other is None:
-        return " unknown\n"
-    if one == other:
-        return f" joined {one}\n"
-    return f" apart {one} {other}\n"
+        telling.tell(" unknown")
+    elif one == other:
+        tell_rows(telling, " joined", [one])
+    else:
+        tell_rows(telling, " apart", [one, other])
 
 
 def tell_term(telling, row, ends):
     end = ends.end_of(row)
     if end is None:
-        end = "unknown"
-    telling.tell(f"term {end}\n")
+        telling.tell("term unknown")
+    else:
+        tell_rows(telling, "term", [end])
+    telling.tell("\n")
+
+
+def tell_rows(telling, word, rows):
+    telling.tell(word)
+    for row in rows:
+        telling.tell(" ")
+        telling.tell_row(row)

@@ -20,14 +20,18 @@ class Store:
 
     def kept(self, head, parts):
         """The number of the term with this head and parts of these numbers."""
-        key = (head, parts)
-        number = self.numbers.get(key)
+        number = self.numbers.get((head, parts))
         if number is None:
-            number = len(self.heads)
-            self.numbers[key] = number
-            self.heads.append(head)
-            self.parts.append(parts)
-            self.sizes.append(1 + sum([self.sizes[part] for part in parts]))
+            number = self.added(head, parts)
+        return number
+
+    def added(self, head, parts):
+        """The number of such a term that is new."""
+        number = len(self.heads)
+        self.numbers[(head, parts)] = number
+        self.heads.append(head)
+        self.parts.append(parts)
+        self.sizes.append(1 + sum([self.sizes[part] for part in parts]))
         return number
 
     def holds_variable(self, number):
@@ -46,15 +50,21 @@ def numbers_of(store, row):
     return numbers[::-1]
 
 
-def filled(store, row, bound):
-    """The number of a row's term with the terms of these numbers for its variables."""
-    waiting = []
-    for head, count in reversed(row):
-        if isinstance(head, int):
-            waiting.append(bound[head])
-        else:
-            waiting.append(store.kept(head, tuple([waiting.pop() for part in range(count)])))
-    return waiting[0]
+def moved_terms(store, numbers, other):
+    """The numbers that these terms, and all within them, get in another store."""
+    wanted = {}
+    waiting = list(numbers)
+    while waiting:
+        number = waiting.pop()
+        if number not in wanted:
+            wanted[number] = True
+            waiting.extend(store.parts[number])
+    moved = {}
+    # A term's parts have lower numbers, so they have moved before it.
+    for number in sorted(wanted):
+        parts = tuple([moved[part] for part in store.parts[number]])
+        moved[number] = other.kept(store.heads[number], parts)
+    return moved
 
 
 def followed(links, number):
@@ -80,12 +90,27 @@ def row_of(store, number, links):
     return row
 
 
+def written_length(row):
+    """How long a term is as it is told."""
+    length = 0
+    for head, count in row:
+        length += len(sign_of(head))
+        # Two brackets, and the commas between.
+        if count > 0:
+            length += count + 1
+    return length
+
+
+def sign_of(head):
+    return f"X{head}" if isinstance(head, int) else head
+
+
 def written(row):
     """A term as it is told."""
     pieces = []
     missing = []
     for head, count in row:
-        pieces.append(f"X{head}" if isinstance(head, int) else head)
+        pieces.append(sign_of(head))
         if count > 0:
             pieces.append("(")
             missing.append(count)
